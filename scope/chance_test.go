@@ -62,7 +62,7 @@ func (m *maker) expr(deep int) {
 		m.put(pick(m.Rand, "1", "true", name(m.Rand), name(m.Rand)))
 		return
 	}
-	switch m.Intn(7) {
+	switch m.Intn(8) {
 	case 0:
 		m.put(pick(m.Rand, "-", "!"))
 		m.expr(0)
@@ -70,13 +70,13 @@ func (m *maker) expr(deep int) {
 		m.expr(deep - 1)
 		m.put(pick(m.Rand, " + ", " * ", " && "))
 		m.expr(0)
-	case 2, 3:
+	case 2, 3, 4:
 		m.put(pick(m.Rand, pick(m.Rand, m.far...), pick(m.Rand, m.far...), "(x)", name(m.Rand)), ".", name(m.Rand))
-	case 4:
+	case 5:
 		m.put(name(m.Rand), "(")
 		m.many(2, ", ", func() { m.expr(deep - 1) })
 		m.put(")")
-	case 5:
+	case 6:
 		m.put("f().", name(m.Rand), ".", name(m.Rand))
 	default:
 		m.put(name(m.Rand))
@@ -220,6 +220,9 @@ func repaired(t *testing.T, r *rand.Rand, old api.Repo, e api.Place) api.Repo {
 	text := old.Files[e.File].Text
 	from, to, word := n.At, n.At+len(n.Text), name(r)
 	switch {
+	case n.Kind == api.NodeImport && r.Intn(2) == 0:
+		other, _ := wantFolder(pick(r, old.Files...).Path)
+		to, word = n.To, "\""+other+"\""
 	case n.Kind == api.NodeImport: // it goes, with the end behind it
 		from, to, word = n.From, n.To+1, ""
 	case isDeclaration(n.Kind):
@@ -229,16 +232,21 @@ func repaired(t *testing.T, r *rand.Rand, old api.Repo, e api.Place) api.Repo {
 			word, text = "T", text+"; type T struct { }"
 		}
 	case n.Kind == api.NodeFar || n.Kind == api.NodeDot:
-		one, _ := l.imported(l.to(n.Kids[0]).node().Text)
+		one, ok := l.imported(l.to(n.Kids[0]).node().Text)
+		if list := l.imports(); !ok && len(list) > 0 { // another import, at its kid's place; then its own name's turn comes
+			kid := l.to(n.Kids[0]).node()
+			from, to, word = kid.At, kid.To, wantName(pick(r, list...).node().Text)
+			break
+		}
 		list := there(p, one, n.Kind == api.NodeFar)
-		if word = pick(r, append(list, word)...); len(list) == 0 || r.Intn(6) == 0 {
+		if word = pick(r, append(list, word)...); len(list) == 0 || r.Intn(9) == 0 {
 			from, word = n.From, map[int]string{api.NodeFar: "int", api.NodeDot: "(1)"}[n.Kind]
 		}
 	default:
 		for k := 0; k < 20 && l.means(word).Kind == 0; k++ {
 			word = name(r)
 		}
-		if list := l.imports(); l.parent() == api.NodeDot && len(list) > 0 && r.Intn(2) == 0 {
+		if list := l.imports(); l.parent() == api.NodeDot && len(list) > 0 && r.Intn(4) > 0 {
 			word = wantName(pick(r, list...).node().Text)
 		}
 	}
@@ -274,7 +282,7 @@ func right(t *testing.T, r *rand.Rand, errs map[api.Errno]int) (api.Repo, api.Sc
 // P13.1 to P13.4, on programs by chance that are right, and on those that led there.
 func TestChance(t *testing.T) {
 	r := rand.New(rand.NewSource(13))
-	errs, kinds := map[api.Errno]int{}, map[int]int{}
+	errs, kinds, fars := map[api.Errno]int{}, map[int]int{}, map[[2]int]int{}
 	for range 200 {
 		list, s, ok := right(t, r, errs)
 		if !ok {
@@ -286,6 +294,7 @@ func TestChance(t *testing.T) {
 			}
 		}
 		p := mustRead(t, list)
+		checkFars(t, p, s, fars)
 		checkDeclared(t, p)
 		checkOrder(t, r, list)
 		checkFresh(t, r, p, s)
@@ -298,6 +307,29 @@ func TestChance(t *testing.T) {
 	for kind := range 5 {
 		if kinds[kind] < 100 {
 			t.Errorf("uses of Kind %d were met %d times: too seldom", kind, kinds[kind])
+		}
+	}
+	for _, in := range [][2]int{{api.NodeVar, api.NodeFile}, {api.NodeVar, api.NodeBlock}, {api.NodeField, api.NodeStruct}, {api.NodeParam, api.NodeFunc}, {api.NodeFunc, api.NodeFile}} {
+		if fars[in] < 10 {
+			t.Errorf("NodeFars in nodes of the Kinds %v were met %d times: too seldom", in, fars[in])
+		}
+	}
+}
+
+// checkFars is P13.2: a NodeFar means a struct, its NodeName nothing. It counts them by the Kinds of the node in which they stand, and of the one round that.
+func checkFars(t *testing.T, p api.Program, s api.Scopes, fars map[[2]int]int) {
+	t.Helper()
+	for i, x := range p.Trees {
+		for j, n := range x.Nodes {
+			if n.Kind != api.NodeFar {
+				continue
+			}
+			u := s.Uses[i][j]
+			if u.Kind != api.UseTop || p.Trees[u.File].Nodes[u.Node].Kind != api.NodeStruct || s.Uses[i][n.Kids[0]] != (api.Use{}) {
+				t.Fatalf("%q: file %d, node %d: %v, its NodeName: %v", p.Repo.Files, i, j, u, s.Uses[i][n.Kids[0]])
+			}
+			up, _, _ := look{p, i, j}.up()
+			fars[[2]int{up.node().Kind, up.parent()}]++
 		}
 	}
 }

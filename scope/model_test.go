@@ -280,8 +280,7 @@ func (l look) wantUse() (api.Use, api.Errno) {
 		return l.to(u.Node).wantShown(n.Text)
 	}
 	if l.parent() == api.NodeFar {
-		one, _ := l.imported(n.Text)
-		return one.use(api.UseImport), api.OK
+		return api.Use{}, api.OK
 	}
 	u := l.means(n.Text)
 	if u.Kind == 0 {

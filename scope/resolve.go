@@ -174,10 +174,10 @@ func (r *resolver) declared(i int, parent api.Node) {
 	}
 }
 
-// name is what a NodeName means.
+// name is what a NodeName means. That of a NodeFar means nothing: it is the NodeFar for which its import was looked for.
 func (r *resolver) name(n, parent api.Node) api.Use {
 	if parent.Kind == api.NodeFar {
-		return r.imports[n.Text]
+		return api.Use{}
 	}
 	u := r.found(n, r.look(n.Text))
 	r.must(n, u.Kind != api.UseImport || parent.Kind == api.NodeDot, api.ErrAlone)

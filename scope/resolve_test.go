@@ -1,6 +1,7 @@
 package scope_test
 
 import (
+	"slices"
 	"strings"
 	"testing"
 
@@ -30,7 +31,6 @@ func TestNumbers(t *testing.T) {
 	}
 	want := map[int]api.Use{
 		4:  {Kind: api.UseTop, File: 3, Node: 3},     // b.T
-		5:  {Kind: api.UseImport, File: 1, Node: 1},  // b
 		9:  {Kind: api.UseLocal, File: 1, Node: 3},   // v
 		14: {Kind: api.UseBuiltin, File: 0, Node: 2}, // len
 		16: {Kind: api.UseLocal, File: 1, Node: 8},   // w
@@ -380,16 +380,16 @@ func TestFar(t *testing.T) {
 		"var v int = b@i.K@t1 + b@i.V@t2",
 		"func f() { b@i.F@t3(); b@i.V@t2 = b@i.T@t4; (b@i).V@t2.x = ((b@i.V@t2)).y(b@i.K@t1) }",
 		"func f() { -b@i.F@t3().x; !b@i.K@t1 }",
-		"var v b@i.T@t4",
-		"type S struct { x b@i.T@t4; y int; z b@i.T@t4 }",
-		"func f(x b@i.T@t4) b@i.T@t4 { var y b@i.T@t4 = b@i.T@t4 }",
-		"func f(b#l1 int) { b@l1.K = b@l1; var v b@i.T@t4 = b@l1.Q }",
-		"func f(b#l1 b@i.T@t4) b@i.T@t4 { return b@l1.X }",
+		"var v b.T@t4",
+		"type S struct { x b.T@t4; y int; z b.T@t4 }",
+		"func f(x b.T@t4) b.T@t4 { var y b.T@t4 = b@i.T@t4 }",
+		"func f(b#l1 int) { b@l1.K = b@l1; var v b.T@t4 = b@l1.Q }",
+		"func f(b#l1 b.T@t4) b.T@t4 { return b@l1.X }",
 		"func f() { b#l1 := b@i.V@t2; b@l1.k = b@l1.X.Y }",
-		"func f() { var b#l1 b@i.T@t4 = b@i.V@t2; { var b#l2 b@i.T@t4 = b@l1.V; b@l2.X }; b@l1.X }",
+		"func f() { var b#l1 b.T@t4 = b@i.V@t2; { var b#l2 b.T@t4 = b@l1.V; b@l2.X }; b@l1.X }",
 		"func f() { { b#l1 := 1; b@l1.q }; b@i.K@t1 }",
 		"func f() { if true { b#l1 := 1; b@l1.q = b@l1 } else { b@i.V@t2 = b@i.K@t1 } }",
-		"type T#t5 struct { b int }; func (b#l1 T@t5) K() b@i.T@t4 { return b@l1.b.K }",
+		"type T#t5 struct { b int }; func (b#l1 T@t5) K() b.T@t4 { return b@l1.b.K }",
 		"type T#t5 struct { }; var K#t6 int; func f(x T@t5) { K@t6 = b@i.K@t1; y := 1 }",
 	} {
 		meant(t, "a/x.go", "package a; import \"b\"#i; "+s, "b/x.go", b)
@@ -397,6 +397,73 @@ func TestFar(t *testing.T) {
 	}
 	// The kid of a NodeDot that is no NodeName, or is a name of something else, tells nothing of the NodeDot.
 	meant(t, "a/x.go", "package a; import \"b\"; const c#t7 = 1; func f#t8() { c@t7.K; f@t8().K; 1.K; (f@t8 + c@t7).K; println@b1.K }", "b/x.go", b)
+}
+
+// P13.2: nothing is looked for of the NodeName of a NodeFar, so it means nothing, wherever the NodeFar stands; each other node means what it does.
+func TestNameOfFar(t *testing.T) {
+	none, imp := api.Use{}, api.Use{Kind: api.UseImport, Node: 1}
+	typ, val := api.Use{Kind: api.UseTop, File: 1, Node: 1}, api.Use{Kind: api.UseTop, File: 1, Node: 4}
+	local := func(node int) api.Use { return api.Use{Kind: api.UseLocal, Node: node} }
+	own := func(node int) api.Use { return api.Use{Kind: api.UseTop, Node: node} }
+	for _, q := range []struct {
+		in, fars int // the Kind of the nodes in which NodeFars stand, and how many these are
+		text     string
+		want     []api.Use // of each node behind the NodeFile and the NodeImport
+	}{
+		// in a NodeVar of the package
+		{api.NodeVar, 1, "var v b.T", []api.Use{none, typ, none}},
+		{api.NodeVar, 1, "var v b.T = b.V", []api.Use{none, typ, none, val, imp}},
+		{api.NodeVar, 2, "var v b.T; var w b.T = v", []api.Use{none, typ, none, none, typ, none, own(2)}},
+		// in a NodeVar of a function
+		{api.NodeVar, 1, "func f() { var v b.T; v.X = b.V.X }", []api.Use{none, none, none, typ, none, none, none, local(4), none, val, imp}},
+		{api.NodeVar, 1, "func f() { var b b.T = b.V; b.X }", []api.Use{none, none, none, typ, none, val, imp, none, none, local(4)}},
+		{api.NodeVar, 1, "func f(b int) { { var v b.T = b } }", []api.Use{none, none, none, none, none, none, typ, none, local(3)}},
+		{api.NodeVar, 1, "func f() { b := b.V; var v b.T = b }", []api.Use{none, none, none, val, imp, none, typ, none, local(4)}},
+		// in a NodeField
+		{api.NodeField, 1, "type S struct { x b.T }", []api.Use{none, none, typ, none}},
+		{api.NodeField, 2, "type S struct { b b.T; y int; T b.T; z S }", []api.Use{none, none, typ, none, none, none, none, typ, none, none, own(2)}},
+		// in a NodeParam
+		{api.NodeParam, 1, "func f(x b.T) { x = b.V }", []api.Use{none, none, typ, none, none, none, local(3), val, imp}},
+		{api.NodeParam, 2, "func f(b b.T, c b.T) { c = b }", []api.Use{none, none, typ, none, none, typ, none, none, none, local(6), local(3)}},
+		// as what a function tells
+		{api.NodeFunc, 1, "func f() b.T { return b.V }", []api.Use{none, typ, none, none, none, val, imp}},
+		{api.NodeFunc, 1, "func f(b int) b.T { return b }", []api.Use{none, none, none, typ, none, none, none, local(3)}},
+		{api.NodeFunc, 1, "type S struct { }; func (b S) f() b.T { return b }", []api.Use{none, none, none, own(2), typ, none, none, none, local(4)}},
+	} {
+		for _, folder := range []string{"b", "c/b"} {
+			r := repo("a/x.go", "package a; import \""+folder+"\"; "+q.text, folder+"/x.go", "package b; type T struct { X int }; var V int")
+			p := mustRead(t, r)
+			s, e := check(t, r)
+			if want := append([]api.Use{none, none}, q.want...); e != (api.Place{}) || !slices.Equal(s.Uses[0], want) {
+				t.Errorf("Resolve of %q: %v, %v, want %v", r.Files, s, e, want)
+				continue
+			}
+			met := 0
+			for i, n := range p.Trees[0].Nodes {
+				if l := (look{p, 0, i}); n.Kind == api.NodeFar && l.parent() == q.in && s.Uses[0][i] == typ && s.Uses[0][n.Kids[0]] == none {
+					met++
+				}
+			}
+			if met != q.fars {
+				t.Errorf("%q: %d NodeFars in nodes of Kind %d, want %d", q.text, met, q.in, q.fars)
+			}
+		}
+	}
+	// In a NodeRecv the grammar has none: at the point no file goes on.
+	text := "package a; import \"b\"; func (r b.T) f() { }"
+	want := api.Place{Err: api.ErrParse, At: strings.Index(text, ".T")}
+	if p, e := scope.Read(repo("a/x.go", text, "b/x.go", "package b; type T struct { }")); e != want || len(p.Trees) > 0 {
+		t.Errorf("Read(%q): %v, %v, want %v", text, p, e, want)
+	}
+	// Each by its own import, in files that import others of the same name.
+	meant(t, "a/x.go", "package a; import \"b\"#i1; import \"d\"#i2; func f(x b.T@t1, y d.T@t3) d.T@t3 { var z b.T@t1 = b@i1.V@t4; return d@i2.V@t6 }",
+		"a/y.go", "package a; import \"c/b\"#i3; type S struct { x b.T@t2 }; var v b.T@t2 = b@i3.V@t5",
+		"b/x.go", "package b; type T#t1 struct { }; var V#t4 int", "c/b/x.go", "package b; type T#t2 struct { }; var V#t5 int", "d/x.go", "package d; type T#t3 struct { }; var V#t6 int")
+	// A declaration of its name in the import's package is not meant either.
+	meant(t, "a/x.go", "package a; import \"b\"; var v b.T@t1", "b/x.go", "package b; type b struct { }; type T#t1 struct { }")
+	// Nor is a local, or a built-in name.
+	meant(t, "a/x.go", "package a; import \"len\"#i1; func f(len#l1 len.T@t1) len.T@t1 { { len#l2 := len@l1; var v len.T@t1 = len@l2 }; return len@l1.V }; func g() { len@i1.V@t2 }",
+		"len/x.go", "package len; type T#t1 struct { }; var V#t2 int = len@b2")
 }
 
 // P13.4: the files of a package in each order; what is wrong first is told of another file then.
